@@ -1,0 +1,1 @@
+"""A desk that says times at once, for good."""
