@@ -23,3 +23,15 @@ def is_name(value):
     if not isinstance(value, str) or not 1 <= len(value) <= LONGEST_NAME:
         return False
     return all(["a" <= sign <= "z" for sign in value])
+
+
+def are_below(value, count):
+    """Whether any value is a tuple of numbers below a count."""
+    return isinstance(value, tuple) and all([is_between(number, 0, count - 1) for number in value])
+
+
+def is_lot(value, count):
+    """Whether any value is a lot of numbers below a count."""
+    if not are_below(value, count):
+        return False
+    return all([value[at] < value[at + 1] for at in range(len(value) - 1)])

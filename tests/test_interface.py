@@ -35,7 +35,37 @@ FUNCTIONS = {
         "turned_times": "times", "stretched_times": "times factor", "placed_times": "times places",
         "times_without": "times things",
     },
+    "walks": {
+        "is_walk": "table value", "is_walk_between": "table one other value", "is_closed_walk": "table value",
+        "walk_things": "table walk", "walk_ends": "table walk", "walk_weight": "table walk", "cut_walk": "walk places",
+        "unwound": "table walk",
+    },
+    "attacks": {"is_attack": "table times batches value"},
+    "bounds": {"bound_paper": "table most", "is_bound_paper": "table most value"},
+    "colours": {
+        "pairs_agree": "table count said many", "colour_game": "table count said many", "colour_gap": "count",
+    },
+    "commands": {
+        "is_command": "value", "read_commands": "text", "show_command": "command", "show_commands": "commands",
+    },
+    "cuts": {"all_cuts": "orders many", "best_cut": "orders many", "worst_cut": "orders many"},
+    "days": {
+        "is_batch": "table times value", "check_day": "table value", "is_day": "table value kept",
+        "said": "times pairs", "course_of": "table day", "times_of": "table day", "lots_of": "day",
+        "day_by": "lots times", "moved_day": "day by", "fits_batches": "day batches", "broken_ties": "table times",
+        "is_kept": "table times", "first_broken": "table day",
+    },
+    "farpapers": {
+        "far_paper": "table roads spots batches", "is_far_paper": "table roads spots batches value",
+    },
+    "forecasts": {
+        "are_calls": "table value", "check_forecast": "table value", "plain_forecast": "table batches",
+        "numbers_of": "forecast", "news_behind": "forecast call thing",
+    },
 }
+
+# all parameters that have one
+DEFAULTS = {("is_day", "kept"): True}
 
 CLASSES = {
     "errors": {
@@ -45,6 +75,12 @@ CLASSES = {
     },
     "disk": {"Disk": {"__init__": "cells", "look": "at", "put": "at octet", "flush": "", "events": ""}},
     "tables": {"Table": {"__init__": "things ties"}},
+    "attacks": {
+        "TieBroken": {"__init__": "tie"}, "Coming": {"__init__": "things parts"}, "Attack": {"__init__": "walk tree"},
+    },
+    "bounds": {"BoundPaper": {"__init__": "steps rows"}},
+    "farpapers": {"FarPaper": {"__init__": "things ties"}},
+    "journal": {"Journal": {"__init__": "disk", "records": "", "write": "record", "drop": "many", "renew": "records"}},
 }
 
 
@@ -63,6 +99,8 @@ class InterfaceTest(unittest.TestCase):
                 self.assertIn(name, own, module)
                 told = inspect.signature(getattr(here, name)).parameters
                 self.assertEqual(" ".join(told), parameters, name)
+                for word, parameter in told.items():
+                    self.assertIs(parameter.default, DEFAULTS.get((name, word), inspect.Parameter.empty), name)
 
     def test_classes(self):
         for module, classes in CLASSES.items():

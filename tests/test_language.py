@@ -17,6 +17,7 @@ METHODS = set(
     "setdefault split splitlines startswith strip update upper values zfill bit_length".split()
 )
 DOUBLE = {"__init__", "__eq__"}
+LIBRARY = {"gcd", "lcm", "isqrt", "comb", "perm", "factorial"}
 STATEMENTS = (
     ast.FunctionDef, ast.ClassDef, ast.Return, ast.Assign, ast.AugAssign, ast.For, ast.While, ast.If, ast.Raise,
     ast.ImportFrom, ast.Expr, ast.Pass, ast.Break, ast.Continue,
@@ -62,7 +63,11 @@ class LanguageTest(unittest.TestCase):
         for name, tree in trees():
             bound = []
             for node in tree.body:
-                if isinstance(node, ast.ImportFrom):
+                if isinstance(node, ast.ImportFrom) and node.module == "math":
+                    for alias in node.names:
+                        self.assertTrue(alias.name in LIBRARY and alias.asname is None, name)
+                        bound.append(alias.name)
+                elif isinstance(node, ast.ImportFrom):
                     self.assertTrue(node.level == 0 and node.module.startswith("saidatonce."), name)
                     defined = ast.parse((PACKAGE / (node.module.split(".")[1] + ".py")).read_text(encoding="ascii"))
                     for alias in node.names:
@@ -90,7 +95,10 @@ class LanguageTest(unittest.TestCase):
 
     def test_no_two_files_import_from_each_other(self):
         needs = {
-            name[:-3]: {node.module.split(".")[1] for node in tree.body if isinstance(node, ast.ImportFrom)}
+            name[:-3]: {
+                node.module.split(".")[1] for node in tree.body
+                if isinstance(node, ast.ImportFrom) and node.module != "math"
+            }
             for name, tree in trees()
         }
         while needs:
