@@ -1,10 +1,9 @@
 """Colours, said for things instead of times: the things of a tie must have unlike ones."""
 
 from saidatonce.errors import Refused
-from saidatonce.tables import Table
+from saidatonce.tables import Table, plain_things
 
 MOST_WAYS = 50000
-GAP_NAMES = ("a", "b", "c", "d", "e", "f")
 
 
 def neighbours_of(table):
@@ -133,4 +132,4 @@ def colour_gap(count):
         return None
     # all colours are said around the thing that is to come
     ties = tuple([(thing, count, 0) for thing in range(count)])
-    return Table(GAP_NAMES[:count + 1], ties), tuple(range(count)) + (None,)
+    return Table(plain_things(count + 1), ties), tuple(range(count)) + (None,)

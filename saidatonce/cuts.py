@@ -9,10 +9,15 @@ MOST_ORDERS = 60
 MOST_CUTS = 500
 
 
-def check_cut(orders, many):
-    """Raises InvalidNumber for any values that are no numbers of orders and of batches to cut them into."""
+def check_orders(orders):
+    """Raises InvalidNumber for any value that is no number of orders."""
     if not is_between(orders, 1, MOST_ORDERS):
         raise InvalidNumber("orders")
+
+
+def check_cut(orders, many):
+    """Raises InvalidNumber for any values that are no numbers of orders and of batches to cut them into."""
+    check_orders(orders)
     if not is_between(many, 1, orders):
         raise InvalidNumber("many")
 

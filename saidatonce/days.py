@@ -2,7 +2,7 @@
 
 from saidatonce.errors import InvalidDay
 from saidatonce.kinds import is_between
-from saidatonce.times import MOST_TIME, nothing_said
+from saidatonce.times import MOST_TIME, come, nothing_said
 
 
 def is_pair(times, value):
@@ -96,6 +96,21 @@ def broken_ties(table, times):
 def is_kept(table, times):
     """Whether times break no tie."""
     return broken_ties(table, times) == ()
+
+
+def keep_rows(rows, times):
+    """Whether times of things that have come differ by no less than rows tell."""
+    here = come(times)
+    return all([
+        rows[one][other] is None or times[other] - times[one] >= rows[one][other] for one in here for other in here
+    ])
+
+
+def ends_by_rows(rows, times, thing):
+    """The least and the greatest time of a thing that differs enough from all that have come, None for an open end."""
+    lows = [times[other] + rows[other][thing] for other in come(times) if rows[other][thing] is not None]
+    highs = [times[other] - rows[thing][other] for other in come(times) if rows[thing][other] is not None]
+    return max(lows, default=None), min(highs, default=None)
 
 
 def first_broken(table, day):

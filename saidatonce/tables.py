@@ -50,6 +50,11 @@ class Table:
         return isinstance(other, Table) and self.things == other.things and self.ties == other.ties
 
 
+def plain_things(count):
+    """So many things with the names a, b, c and so on."""
+    return tuple("abcdefghijkl"[:count])
+
+
 def thing_number(table, name):
     """The number of the thing with a name."""
     if is_name(name):

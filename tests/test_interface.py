@@ -62,6 +62,66 @@ FUNCTIONS = {
         "are_calls": "table value", "check_forecast": "table value", "plain_forecast": "table batches",
         "numbers_of": "forecast", "news_behind": "forecast call thing",
     },
+    "limits": {"limits": "table times", "is_within": "pair batches"},
+    "literals": {
+        "are_answers": "rules value", "broken_rules": "rules answers", "answer_pairs": "rules many",
+        "is_answerable": "rules answers many", "answers_for": "rules answers many thing", "steady_answers": "rules",
+        "answer_plan": "rules answers",
+    },
+    "printer": {
+        "show_table": "table", "show_times": "table times", "show_day": "table day", "show_batches": "batches",
+        "show_lot": "table lot",
+    },
+    "room": {"room_for": "table first last batches", "is_room": "table first last batches room"},
+    "steady": {
+        "barring_walk": "table most", "steady_length": "table", "final_weights": "table", "mean_ring": "table",
+        "greatest_mean": "table",
+    },
+    "telling": {"is_as_hard": "one other", "telling_case": "one other"},
+    "asking": {
+        "asking_tree": "rules answers many", "is_asking_tree": "rules answers many value", "asking_height": "tree",
+    },
+    "court": {
+        "court": "table batches", "is_safe": "table batches", "is_barring": "table batches value",
+        "is_verdict": "table batches value", "safe_paper": "table batches", "is_safe_paper": "table batches value",
+    },
+    "games": {
+        "window_of": "table times", "kept_batches": "table times lot", "can_keep_together": "table times lot",
+        "can_keep": "table times batches", "can_keep_among": "table times lot batches",
+        "least_orders": "table times most", "right_batches": "table times lot batches",
+        "beating_lots": "table times batches", "first_answers": "table lots batches",
+    },
+    "heights": {"attack_height": "attack", "end_ties": "attack", "all_things_of": "attack"},
+    "plans": {
+        "is_plan": "table times value", "plan_by": "table times wishes", "hours_in_plans": "table times thing",
+        "lesser_plan": "one other", "greater_plan": "one other",
+    },
+    "playing": {
+        "lot_of": "attack", "attack_behind": "table times attack", "beaten_by": "table times attack wishes",
+    },
+    "reader": {
+        "read_table": "text", "read_times": "table text", "read_day": "table text", "read_batches": "text",
+        "read_lot": "table text", "completed_table": "text", "completed_times": "table text",
+        "completed_day": "table text",
+    },
+    "roomdays": {"hard_things": "table first last orders", "room_day": "table first last room things"},
+    "roompapers": {
+        "room_paper": "table first last batches room", "is_room_paper": "table first last batches room value",
+    },
+    "rooms": {
+        "room_steps": "table first last", "most_orders": "table first last room", "table_with_rooms": "rooms",
+    },
+    "rounds": {
+        "most_rounds": "table times orders", "sure_rounds": "table times orders", "least_waiting": "table times orders",
+    },
+    "soon": {"is_ever_after": "table batches", "orders_for_ever": "table", "late_times": "table batches"},
+    "held": {
+        "held": "table times batches", "is_held": "table times batches", "is_held_paper": "table times batches value",
+    },
+    "idle": {
+        "idle_walk": "table tie", "idle_ties": "table", "core_ties": "table", "is_core": "table value",
+        "breaking_plan": "table tie", "telling_plan": "table other",
+    },
 }
 
 # all parameters that have one
@@ -80,6 +140,10 @@ CLASSES = {
     },
     "bounds": {"BoundPaper": {"__init__": "steps rows"}},
     "farpapers": {"FarPaper": {"__init__": "things ties"}},
+    "literals": {"Rules": {"__init__": "things rules"}},
+    "court": {"Safe": {}, "Barred": {"__init__": "walk"}},
+    "roompapers": {"Roomy": {"__init__": "layers"}, "Heavy": {"__init__": "walk"}},
+    "held": {"Held": {}, "Short": {"__init__": "walk"}},
     "journal": {"Journal": {"__init__": "disk", "records": "", "write": "record", "drop": "many", "renew": "records"}},
 }
 
