@@ -36,9 +36,8 @@ def is_held(table, times, batches):
     return are_held(table, times, batches)
 
 
-def held(table, times, batches):
-    """Some right Held, Short or Barred."""
-    check_both(table, times, batches)
+def paper_of(table, times, batches):
+    """Some right Held, Short or Barred; times and batches are not checked."""
     walk = heavy_walk(table, times)
     if walk is not None and len(walk) <= walk_reach(batches):
         return Short(walk)
@@ -46,6 +45,20 @@ def held(table, times, batches):
     if ring is not None and len(ring) <= ring_reach(batches):
         return Barred(ring)
     return Held()
+
+
+def bad_walk(table, times, batches):
+    """The walk of some right Short, or of a Barred that begins with a missing thing; None if times are held."""
+    paper = paper_of(table, times, batches)
+    if isinstance(paper, Held):
+        return None
+    return paper.walk
+
+
+def held(table, times, batches):
+    """Some right Held, Short or Barred."""
+    check_both(table, times, batches)
+    return paper_of(table, times, batches)
 
 
 def is_short(table, times, batches, value):

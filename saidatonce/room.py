@@ -8,10 +8,15 @@ from saidatonce.steady import shortest_ring
 from saidatonce.times import check_batches
 
 
+def are_ends(table, first, last):
+    """Whether any values are two unlike numbers of things."""
+    most = len(table.things) - 1
+    return is_between(first, 0, most) and is_between(last, 0, most) and first != last
+
+
 def check_ends(table, first, last):
     """Raises InvalidNumber for any values that are no two unlike numbers of things."""
-    most = len(table.things) - 1
-    if not is_between(first, 0, most) or not is_between(last, 0, most) or first == last:
+    if not are_ends(table, first, last):
         raise InvalidNumber("ends")
 
 

@@ -122,6 +122,56 @@ FUNCTIONS = {
         "idle_walk": "table tie", "idle_ties": "table", "core_ties": "table", "is_core": "table value",
         "breaking_plan": "table tie", "telling_plan": "table other",
     },
+    "rings": {
+        "ring_length": "table", "fewest_orders": "table", "fewest_batches": "table size", "beaten_at": "table batches",
+        "barred_things": "table batches", "least_easing": "table batches",
+    },
+    "brief": {"fewest_ties": "table times batches", "orders_that_beat": "table times"},
+    "clerk": {"batch_times": "table times batches things", "answers_to": "table times batches lots"},
+    "foretold": {
+        "held_by": "table times forecast", "is_held_by": "table times forecast",
+        "is_forecast_paper": "table times forecast value",
+    },
+    "forever": {"can_for_ever": "table times", "for_ever": "table times", "is_ever_paper": "table times value"},
+    "ranges": {
+        "hours_for": "table times batches thing", "all_hours": "table times batches",
+        "hours_course": "table day batches thing",
+    },
+    "sheets": {"is_sheet": "value", "new_sheet": "table batches"},
+    "spoil": {"spoiling_lot": "table times batches"},
+    "deeds": {"is_deed": "sheet value", "sheet_after": "sheet deed", "sheet_after_all": "sheet deeds"},
+    "edges": {"why_not": "table times batches thing hour", "edge_walks": "table times batches thing"},
+    "halving": {"batches_needed": "table times batches", "attack_on": "table times batches"},
+    "harmless": {"harmless_hours": "table times batches thing"},
+    "lesser": {
+        "is_lesser": "one other", "hours_by_forecast": "table times forecast thing",
+        "helpful_news": "table times forecast",
+    },
+    "promises": {
+        "say_deed": "sheet things", "hour_deed": "sheet thing wish", "most_more": "sheet",
+        "heaviest_tie": "sheet one other",
+    },
+    "refusals": {
+        "is_refusal": "table times batches value", "cheapest_refusal": "table times batches prices",
+        "least_price": "table times batches prices", "lean_refusals": "table times batches",
+        "is_strike": "table times batches value", "fewest_strikes": "table times batches",
+        "lean_strikes": "table times batches",
+    },
+    "together": {
+        "hours_together": "table times batches things", "gaps_together": "table times batches things",
+        "answer_with": "table times batches things thing hour",
+        "is_batch_answer": "table times batches things value",
+    },
+    "desk": {"start_desk": "disk table batches"},
+    "pricepapers": {
+        "refusal_paper": "table times batches prices", "is_refusal_paper": "table times batches prices value",
+        "strike_paper": "table times batches", "is_strike_paper": "table times batches value",
+    },
+    "runs": {
+        "run_commands": "sheet commands", "run_with_papers": "sheet commands",
+        "sheet_of_run": "sheet commands results", "show_result": "result", "run_script": "sheet text",
+    },
+    "claims": {"run_fault": "sheet commands answers", "is_so": "value", "not_so": "values"},
 }
 
 # all parameters that have one
@@ -145,6 +195,16 @@ CLASSES = {
     "roompapers": {"Roomy": {"__init__": "layers"}, "Heavy": {"__init__": "walk"}},
     "held": {"Held": {}, "Short": {"__init__": "walk"}},
     "journal": {"Journal": {"__init__": "disk", "records": "", "write": "record", "drop": "many", "renew": "records"}},
+    "foretold": {"Lost": {"__init__": "steps"}},
+    "forever": {"Ever": {"__init__": "plan"}},
+    "sheets": {"Sheet": {"__init__": "table times batches"}},
+    "desk": {
+        "Desk": {
+            "__init__": "disk", "do": "deed", "answer": "things", "enter": "thing wish", "undo": "many", "deeds": "",
+            "begun": "", "pack": "",
+        },
+    },
+    "pricepapers": {"PricePaper": {"__init__": "price rows"}},
 }
 
 
@@ -182,6 +242,18 @@ class InterfaceTest(unittest.TestCase):
         from saidatonce.tables import Table
         table = Table(ties=(), things=("a",))
         self.assertEqual((table.things, table.ties, Disk(cells=(5,)).cells), (("a",), (), (5,)))
+        from saidatonce.desk import Desk, start_desk
+        disk = Disk((0,) * 300)
+        start_desk(disk, table, ())
+        self.assertIs(Desk(disk=disk).disk, disk)
+        self.assertIs(Desk(disk).sheet.table == table, True)
+
+    def test_all_modules_of_the_document(self):
+        told = set(FUNCTIONS) | set(CLASSES)
+        self.assertEqual(len(told), 59)
+        here = {path.stem for path in PACKAGE.glob("*.py")}
+        self.assertEqual(here - told, {"__init__", "kinds"})
+        self.assertEqual(told - here, set())
 
 
 if __name__ == "__main__":

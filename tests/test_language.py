@@ -19,10 +19,13 @@ METHODS = set(
     "setdefault split splitlines startswith strip update upper values zfill bit_length".split()
 )
 DOUBLE = {"__init__", "__eq__"}
-LIBRARY = {"gcd", "lcm", "isqrt", "comb", "perm", "factorial"}
+LIBRARY = {
+    "math": {"gcd", "lcm", "isqrt", "comb", "perm", "factorial"},
+    "heapq": {"heappush", "heappop", "heapify", "heapreplace", "heappushpop"},
+}
 STATEMENTS = (
     ast.FunctionDef, ast.ClassDef, ast.Return, ast.Assign, ast.AugAssign, ast.For, ast.While, ast.If, ast.Raise,
-    ast.ImportFrom, ast.Expr, ast.Pass, ast.Break, ast.Continue,
+    ast.ImportFrom, ast.Expr, ast.Pass, ast.Break, ast.Continue, ast.Try,
 )
 
 
@@ -65,9 +68,9 @@ class LanguageTest(unittest.TestCase):
         for name, tree in trees():
             bound = []
             for node in tree.body:
-                if isinstance(node, ast.ImportFrom) and node.module == "math":
+                if isinstance(node, ast.ImportFrom) and node.module in LIBRARY:
                     for alias in node.names:
-                        self.assertTrue(alias.name in LIBRARY and alias.asname is None, name)
+                        self.assertTrue(alias.name in LIBRARY[node.module] and alias.asname is None, name)
                         bound.append(alias.name)
                 elif isinstance(node, ast.ImportFrom):
                     self.assertTrue(node.level == 0 and node.module.startswith("saidatonce."), name)
@@ -99,7 +102,7 @@ class LanguageTest(unittest.TestCase):
         needs = {
             name[:-3]: {
                 node.module.split(".")[1] for node in tree.body
-                if isinstance(node, ast.ImportFrom) and node.module != "math"
+                if isinstance(node, ast.ImportFrom) and node.module not in LIBRARY
             }
             for name, tree in trees()
         }
@@ -119,6 +122,16 @@ class LanguageTest(unittest.TestCase):
                     self.assertNotIsInstance(node.value, (float, complex), name)
                     if isinstance(node.value, str):
                         self.assertNotIn("%", node.value, name)
+
+    def test_errors_caught(self):
+        # each by its name, an own one, with nothing else about it
+        for name, tree in trees():
+            for node in ast.walk(tree):
+                if isinstance(node, ast.Try):
+                    self.assertFalse(node.orelse or node.finalbody, (name, node.lineno))
+                    for handler in node.handlers:
+                        self.assertIn(handler.type.id, ("Refused", "InvalidTable"), (name, node.lineno))
+                        self.assertIsNone(handler.name)
 
     def test_calls(self):
         methods = set()
