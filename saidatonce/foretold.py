@@ -8,7 +8,7 @@ from saidatonce.kinds import are_below, is_between
 from saidatonce.roomdays import adds_up
 from saidatonce.squares import tie_rows
 from saidatonce.tables import sharpest_tie
-from saidatonce.times import MOST_SIZE, check_times, come, missing
+from saidatonce.times import check_times, come, missing
 
 MOST_STEPS = 10000
 
@@ -179,9 +179,9 @@ def held_by(table, times, forecast):
     return Lost(tuple(maker.found))
 
 
-def joined_steps(call, lot, number, parts):
+def joined_steps(call, lot, parts):
     """What steps told tell together at a call, or None if they may not be put together there."""
-    if len(parts) - 1 > number or any([part[0] <= call for part in parts]):
+    if any([part[0] <= call for part in parts]):
         return None
     for at in range(len(parts) - 1):
         if parts[at][2] != parts[at + 1][1] or parts[at][2] not in lot:
@@ -198,10 +198,12 @@ def told_by(table, forecast, absent, told, value):
         if not is_between(inner, 0, len(table.ties) - 1):
             return None
         return (call,) + table.ties[inner]
-    if not isinstance(inner, tuple) or not 1 <= len(inner) <= MOST_SIZE + 1 or not are_below(inner, len(told)):
+    # between so many steps is one thing less
+    if not isinstance(inner, tuple) or not 1 <= len(inner) <= forecast[call][1] + 1:
         return None
-    lot = lot_absent(forecast[call], absent)
-    return joined_steps(call, lot, forecast[call][1], [told[number] for number in inner])
+    if not are_below(inner, len(told)):
+        return None
+    return joined_steps(call, lot_absent(forecast[call], absent), [told[number] for number in inner])
 
 
 def is_unmet(times, forecast, step, tells):
@@ -209,7 +211,8 @@ def is_unmet(times, forecast, step, tells):
     call, one, other, weight = tells
     if times[one] is not None and times[other] is not None:
         return weight > times[other] - times[one]
-    if call == len(forecast) or one != other or weight <= 0:
+    # the ends of a tie are unlike, so this is of a call
+    if one != other or weight <= 0:
         return False
     lot, number = forecast[call]
     return one in lot and len(step[1]) <= number

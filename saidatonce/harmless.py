@@ -19,9 +19,7 @@ def narrowed(hours, least, greatest):
 
 
 def spared(rows, hours, thing, other, kept):
-    """Those of the hours of a thing that take none of the hours of another one, a pair."""
-    if hours is None:
-        return None
+    """Those of the hours of a thing, perhaps None, that take none of the hours of another one, a pair."""
     least, greatest = kept
     onward = rows[thing][other]
     backward = rows[other][thing]

@@ -41,8 +41,8 @@ def is_helped(times, forecast, found, call, thing):
     rows = found[call + 1]
     for at in reversed(range(call + 1)):
         rows = call_rows(rows, changed[at], absent)
-        # from rows that are the same on all goes as it went without the news
-        if rows is None or rows == found[at]:
+        # from rows that are the same on, None too, all goes as it went without the news
+        if rows == found[at]:
             return False
     return keep_rows(rows, times)
 

@@ -38,14 +38,21 @@ def is_bad_walk(table, times, batches, value):
     return is_short(table, times, batches, value) or is_barring_missing(table, times, batches, value)
 
 
+def is_lot_of(table, times, of_ties, value):
+    """Whether any value is a lot of ties, or of missing things."""
+    if of_ties:
+        return is_lot(value, len(table.ties))
+    return is_missing_lot(times, value)
+
+
 def is_right_row(table, times, batches, of_ties, value):
     """Whether any value is a pair of a lot and a walk past it that shows that times are not held."""
     if not isinstance(value, tuple) or len(value) != 2:
         return False
     lot, walk = value
-    if of_ties and not is_lot(lot, len(table.ties)) or not of_ties and not is_missing_lot(times, lot):
+    if not is_lot_of(table, times, of_ties, lot) or not is_bad_walk(table, times, batches, walk):
         return False
-    return is_bad_walk(table, times, batches, walk) and not meet(parts_of(table, times, of_ties, walk), lot)
+    return not meet(parts_of(table, times, of_ties, walk), lot)
 
 
 def price_of(prices, lot):

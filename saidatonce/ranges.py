@@ -53,9 +53,7 @@ def hours_of(table, times, batches, thing):
 
 
 def is_hour(hours, hour):
-    """Whether an integer is one of hours, perhaps None."""
-    if hours is None:
-        return False
+    """Whether an integer is one of hours, a pair."""
     least, greatest = hours
     return (least is None or least <= hour) and (greatest is None or hour <= greatest)
 

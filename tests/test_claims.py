@@ -162,6 +162,11 @@ class PairTest(FaultCase):
         self.wrong(("answer", ("c", "b")), ("said", (("b", 1), ("d", 2))), sheet=wide)
         self.wrong(("answer", ("c", "b")), ("said", (("b", 1), ("b", 1))), sheet=wide)
         self.wrong(("answer", ("c", "b")), ("refused",), sheet=wide)
+        self.wrong(("answer", ("b",)), ("said", (("c", 2),)), sheet=wide)
+        self.right(("answer", ("c",)), ("said", (("c", 2),)), sheet=wide)
+        for value in odd_values() + [["c", 2], ("c",), ("c", 2, 2), "c2", ("c", (2,)), (Sour(), 2), (Yes(), 2)]:
+            self.wrong(("answer", ("c",)), ("said", (value,)), sheet=wide)
+            self.wrong(("answer", ("c",)), ("said", value), sheet=wide)
         self.right(("answer", ()), ("said", ()))
         self.wrong(("answer", ()), ("said", (("b", 1),)))
         self.right(("answer", ("a",)), ("refused",))

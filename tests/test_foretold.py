@@ -194,6 +194,11 @@ class LostTest(ForetoldCase):
         self.wrong(STEPS[:6] + ((1, (4, 5)),))
         self.wrong(STEPS[:6] + ((2, (4, 5)),))
         self.wrong(STEPS[:5] + ((0, (2, 3)), (0, (4, 5))))
+        # also where both calls have all things between
+        alike = (((1, 2, 3), 1), ((1, 2, 3), 1))
+        self.right(STEPS, forecast=alike)
+        self.wrong(STEPS[:6] + ((1, (4, 5)),), forecast=alike)
+        self.wrong(STEPS[:5] + ((0, (2, 3)), (0, (4, 5))), forecast=alike)
 
     def test_indices(self):
         for inner in ((4, 6), (6, 5), (4, 7), (4, -2), (4,), (5,), (5, 4), (4, 4), (4, 5, 5), (), [4, 5], (4, True),
@@ -204,6 +209,10 @@ class LostTest(ForetoldCase):
         self.wrong(STEPS[:4] + ((1, (1, 0)),) + STEPS[5:])
         self.wrong(STEPS[:4] + ((1, (0, 2)),) + STEPS[5:])
         self.right(((2, 0), (2, 1), (2, 2), (2, 3), (0, (0, 1, 2, 3))), forecast=(((1, 2, 3), 3), LAST))
+        # what they lead over lacks one tie
+        near = (0, None, None, None, 2)
+        self.wrong(((2, 0), (2, 2), (2, 3), (0, (0, 1, 2))), times=near, forecast=(((1, 2, 3), 3), LAST))
+        self.wrong(((2, 0), (2, 1), (2, 3), (0, (0, 1, 2))), times=near, forecast=(((1, 2, 3), 3), LAST))
 
     def test_things_between_are_in_the_lot(self):
         for first, told in ((((2,), 1), True), (((1, 2, 3), 1), True), (((1, 3), 1), False), (((), 1), False)):

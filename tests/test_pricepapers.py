@@ -131,6 +131,9 @@ class RefusalPaperTest(Checks):
         self.right(2, ROWS + (((1, 3), (4, 5)),), (1,) * 4, more, times)
         self.wrong(2, ROWS + (((1, 3), (4, 5)),), (1,) * 4, more, (None, None, None, 0))
         self.wrong(2, ROWS + (((3, 1), (4, 5)),), (1,) * 4, more, times)
+        # more things than ties
+        few = Table(tuple("abcdef"), ((4, 5, 1), (5, 4, 0)))
+        self.right(1, (((), (0, 1)), ((2, 3), (0, 1))), (1,) * 6, few, (None,) * 6)
 
     def test_walks_show_that_times_are_not_held(self):
         self.wrong(1, (((), ()),))
