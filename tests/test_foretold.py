@@ -142,6 +142,62 @@ class HeldByTest(ForetoldCase):
                 self.assertIs(self.judge(row, times, forecast), slow_held_by(row, times, forecast))
 
 
+class PlayTest(ForetoldCase):
+    def play(self, chance, table, times, forecast, steps):
+        """Plays steps from the last one on: what is between comes at its call, with any times, until a tie is broken."""
+        times, last = list(times), len(steps) - 1
+        while steps[last][0] < len(forecast):
+            call, inner = steps[last]
+            ends = [self.ends_of(table, forecast, steps, number) for number in inner]
+            between = [one for one, _ in ends[1:]]
+            if times[ends[0][0]] is None:
+                between.append(ends[0][0])
+            coming = {thing for thing in between if times[thing] is None}
+            self.assertLessEqual(coming, set(forecast[call][0]))
+            self.assertLessEqual(len(coming), forecast[call][1])
+            for thing in coming:
+                times[thing] = chance.randint(-5, 9)
+            last = [
+                number for number, (one, other) in zip(inner, ends)
+                if self.weight_of(table, forecast, steps, number) > times[other] - times[one]
+            ][0]
+        x, y, weight = table.ties[steps[last][1]]
+        self.assertLess(times[y] - times[x], weight)
+
+    def ends_of(self, table, forecast, steps, number):
+        call, inner = steps[number]
+        if call == len(forecast):
+            return table.ties[inner][:2]
+        ends = [self.ends_of(table, forecast, steps, other) for other in inner]
+        return ends[0][0], ends[-1][1]
+
+    def weight_of(self, table, forecast, steps, number):
+        call, inner = steps[number]
+        if call == len(forecast):
+            return table.ties[inner][2]
+        return sum(self.weight_of(table, forecast, steps, other) for other in inner)
+
+    def test_whatever_is_said_a_tie_is_broken(self):
+        chance = random.Random(591)
+        calls = []
+        for table in small_tables(400, 6, 12, -4, 2, seed=591):
+            times = random_times(chance, table, 6, 3)
+            for _ in range(2):
+                forecast = random_forecast(chance, table, 5)
+                paper = held_by(table, times, forecast)
+                if isinstance(paper, Lost):
+                    calls.append(len(forecast) - paper.steps[-1][0])
+                    for _ in range(5):
+                        self.play(chance, table, times, forecast, paper.steps)
+        self.assertGreater(len(calls), 200)
+        self.assertGreater(max(calls), 3)
+
+    def test_the_example(self):
+        chance = random.Random(592)
+        for _ in range(50):
+            self.play(chance, ROW, TIMES, (FIRST, LAST), STEPS)
+
+
 class LostTest(ForetoldCase):
     def right(self, steps, table=ROW, times=TIMES, forecast=(FIRST, LAST)):
         self.assertIs(is_forecast_paper(table, times, forecast, Lost(steps)), True, steps)
